@@ -1,21 +1,25 @@
 """The object that the calls are about: an odd modulus and eight registers."""
 
-from oddmodulus.words import number_from_words, words_from_number
+from oddmodulus.powers import power_modulo
+from oddmodulus.results import ABOVE, BELOW, DONE, LEVEL, NO_ORDER, REFUSED
+from oddmodulus.words import is_length, number_from_words, words_from_number
 
 PLACES = 8
-MOST_WORDS = 64
 LEAST_MODULUS = 3
-
-DONE = 0
-REFUSED = -1
+MOST_TIMES = 4096
+MOST_BYTES = 512
 
 
 def is_place(place):
     return 0 <= place < PLACES
 
 
+def are_two_places(first, second):
+    return is_place(first) and is_place(second)
+
+
 def are_places(target, left, right):
-    return is_place(target) and is_place(left) and is_place(right)
+    return is_place(target) and are_two_places(left, right)
 
 
 def is_modulus(number):
@@ -23,7 +27,7 @@ def is_modulus(number):
 
 
 class Bank:
-    """Each method answers its call's list of numbers; a refusal is [-1] and changes nothing."""
+    """Each method answers its call's list of numbers; a refusal is one number alone and changes nothing."""
 
     def __init__(self):
         # Nothing is asked ahead of the first begin; with 1 as modulus even a stray call finds only 0.
@@ -33,7 +37,7 @@ class Bank:
 
     def begin(self, words):
         modulus = number_from_words(words)
-        if not 1 <= len(words) <= MOST_WORDS or not is_modulus(modulus):
+        if not is_length(len(words)) or not is_modulus(modulus):
             return [REFUSED]
         self.modulus = modulus
         # The words handed in count, not those needed: a modulus may have 0 as its highest words.
@@ -65,6 +69,34 @@ class Bank:
         if not are_places(target, left, right):
             return [REFUSED]
         return self.hold(target, self.held[left] * self.held[right])
+
+    def hold_half(self, target, source):
+        if not are_two_places(target, source):
+            return [REFUSED]
+        number = self.held[source]
+        # The modulus is odd: added to an odd number it makes an even one that is the same modulo m.
+        if number % 2 == 1:
+            number = number + self.modulus
+        return self.hold(target, number // 2)
+
+    def hold_doubled(self, target, source, times):
+        if not are_two_places(target, source) or not 0 <= times <= MOST_TIMES:
+            return [REFUSED]
+        return self.hold(target, self.held[source] << times)
+
+    def hold_power(self, target, source, exponent):
+        if not are_two_places(target, source) or len(exponent) > MOST_BYTES:
+            return [REFUSED]
+        return self.hold(target, power_modulo(self.held[source], exponent, self.modulus))
+
+    def order(self, left, right):
+        if not are_two_places(left, right):
+            return [NO_ORDER]
+        if self.held[left] < self.held[right]:
+            return [BELOW]
+        if self.held[left] > self.held[right]:
+            return [ABOVE]
+        return [LEVEL]
 
     def hold(self, place, number):
         # Python's remainder by a positive number is never below 0, so a difference needs no care of its own.

@@ -2,6 +2,7 @@
 
 from oddmodulus.bank import Bank
 from oddmodulus.reader import Reader
+from oddmodulus.whole import shifted_words, wide_product
 
 BEGIN = 0
 PUT = 1
@@ -9,6 +10,13 @@ GET = 2
 SUM_OF = 3
 DIFFERENCE = 4
 PRODUCT = 5
+HALF = 6
+DOUBLED = 7
+POWER = 8
+# 9 is no call's number.
+ORDER = 10
+WIDE = 11
+SHIFTED = 12
 
 
 class UnknownCall(ValueError):
@@ -28,21 +36,27 @@ def answers(calls):
 
 def answer_next(bank, reader):
     call = reader.take()
+    if call in (BEGIN, PUT, GET):
+        return answer_of_words(bank, call, reader)
+    if call in (SUM_OF, DIFFERENCE, PRODUCT):
+        return answer_of_three(bank, call, reader)
+    if call in (HALF, DOUBLED, POWER, ORDER):
+        return answer_of_two(bank, call, reader)
+    if call in (WIDE, SHIFTED):
+        return answer_of_whole(call, reader)
+    raise UnknownCall(f"no call has the number {call}")
+
+
+def answer_of_words(bank, call, reader):
     if call == BEGIN:
         return bank.begin(reader.take_row())
+    place = reader.take()
     if call == PUT:
-        place = reader.take()
         return bank.put_words(place, reader.take_row())
-    if call == GET:
-        place = reader.take()
-        return bank.get_words(place, reader.take())
-    return answer_of_three(bank, call, reader)
+    return bank.get_words(place, reader.take())
 
 
 def answer_of_three(bank, call, reader):
-    # Without this check an unknown call's numbers would be taken for three registers.
-    if call not in (SUM_OF, DIFFERENCE, PRODUCT):
-        raise UnknownCall(f"no call has the number {call}")
     target = reader.take()
     left = reader.take()
     right = reader.take()
@@ -51,3 +65,23 @@ def answer_of_three(bank, call, reader):
     if call == DIFFERENCE:
         return bank.hold_difference(target, left, right)
     return bank.hold_product(target, left, right)
+
+
+def answer_of_two(bank, call, reader):
+    first = reader.take()
+    second = reader.take()
+    if call == HALF:
+        return bank.hold_half(first, second)
+    if call == DOUBLED:
+        return bank.hold_doubled(first, second, reader.take())
+    if call == POWER:
+        return bank.hold_power(first, second, reader.take_row())
+    return bank.order(first, second)
+
+
+def answer_of_whole(call, reader):
+    if call == WIDE:
+        left = reader.take_row()
+        return wide_product(left, reader.take_row())
+    by = reader.take()
+    return shifted_words(reader.take_row(), by)

@@ -2,6 +2,11 @@
 
 WORD_BITS = 64
 GREATEST_WORD = 18446744073709551615
+MOST_WORDS = 64
+
+
+def is_length(length):
+    return 1 <= length <= MOST_WORDS
 
 
 def number_from_words(words):
@@ -12,4 +17,5 @@ def number_from_words(words):
 
 
 def words_from_number(number, length):
+    """The lowest words, so many; bits past them are dropped."""
     return [(number >> (WORD_BITS * place)) & GREATEST_WORD for place in range(length)]

@@ -40,12 +40,60 @@ def product(d, a, b):
     return [5, d, a, b]
 
 
+def half(d, a):
+    return [6, d, a]
+
+
+def doubled(d, a, times):
+    return [7, d, a, times]
+
+
+def power(d, a, e):
+    return [8, d, a, len(e)] + list(e)
+
+
+def order(a, b):
+    return [10, a, b]
+
+
+def wide(a, b, n):
+    return [11, n] + words(a, n) + [n] + words(b, n)
+
+
+def shifted(a, n, by):
+    return [12, by, n] + words(a, n)
+
+
 # Each call beside what Python's own whole numbers say of it.
 ARITHMETIC = (
     (sum_of, lambda a, b: a + b),
     (difference, lambda a, b: a - b),
     (product, lambda a, b: a * b),
 )
+
+
+def number_of_bytes(e):
+    return sum(byte * 256 ** place for place, byte in enumerate(e))
+
+
+def meant_half(a, m):
+    """The one number below m whose double is a modulo m."""
+    return a * pow(2, -1, m) % m
+
+
+def meant_order(a, b):
+    if a == b:
+        return 0
+    return -1 if a < b else 1
+
+
+def meant_shift(a, n, by):
+    # Past all the bits nothing is left; a far greater shift would fill the memory.
+    if abs(by) >= 64 * n:
+        return 0
+    if by < 0:
+        return a // 2 ** -by
+    return a * 2 ** by % WORD ** n
 
 
 def get_all(n):
@@ -108,13 +156,17 @@ class Case(unittest.TestCase):
                 self.fail(f"at {place} stands {there}, not {asked}")
         self.fail(f"{len(answered)} long, not {len(expected)}")
 
-    def check_refused(self, n, call):
+    def check_refused(self, n, call, refusal=-1):
         """The call is refused, and every register, the modulus and n stay."""
+        self.check_unchanged(n, call, [refusal])
+
+    def check_unchanged(self, n, call, answer):
+        """The call has that answer, and every register, the modulus and n stay."""
         m = Numbers(n).modulus(n)
         fill = [put(r, m - 1 - r, n) for r in REGISTERS]
         parts = ask(
             begin(m, n), *fill, call, *get_all(n), put(0, m, n), get(0, n), put(0, m - 1, n), get(0, n),
         )
-        self.same(parts[9], [-1])
+        self.same(parts[9], answer)
         self.same(parts[10:18], [got(m - 1 - r, n) for r in REGISTERS])
         self.same(parts[18:], [[0], got(0, n), [0], got(m - 1, n)])
